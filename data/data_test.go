@@ -3,6 +3,7 @@ package data_test
 import (
 	"errors"
 	"math"
+	"slices"
 	"strings"
 	"sync"
 	"testing"
@@ -337,6 +338,29 @@ func TestHoles(t *testing.T) {
 		if step.do(); d.Blocks() != step.blocks {
 			t.Errorf("%s: %d blocks; want %d", step.name, d.Blocks(), step.blocks)
 		}
+	}
+}
+
+// P41: which blocks are no holes: rising, in new memory.
+func TestWritten(t *testing.T) {
+	d := &data.Data{}
+	if l := d.Written(); len(l) != 0 {
+		t.Error(l)
+	}
+	for _, at := range []int{4095, 640, 0, 700, 64} {
+		write(t, d, at, "\x00")
+	}
+	for range 2 {
+		l := d.Written()
+		if !slices.Equal(l, []int{0, 1, 10, 63}) {
+			t.Error(l)
+		}
+		clear(l)
+	}
+	resize(t, d, 641)
+	resize(t, d, 4096)
+	if l := d.Written(); !slices.Equal(l, []int{0, 1, 10}) {
+		t.Error(l)
 	}
 }
 

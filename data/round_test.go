@@ -62,8 +62,13 @@ func holdAgainst(t *testing.T, d *data.Data, x *text, at, n int) {
 	if s, end, err := d.Read(0, api.MaxFile); s != x.s || !end || err != nil {
 		t.Fatalf("%q, %v, %v; want %q", s, end, err, x.s)
 	}
-	if d.Size() != len(x.s) || d.Blocks() != x.blocks() {
-		t.Fatalf("%d bytes, %d blocks; want %d, %d", d.Size(), d.Blocks(), len(x.s), x.blocks())
+	if d.Size() != len(x.s) || d.Blocks() != x.blocks() || len(d.Written()) != x.blocks() {
+		t.Fatalf("%d bytes, %d blocks, %v; want %d, %d", d.Size(), d.Blocks(), d.Written(), len(x.s), x.blocks())
+	}
+	for _, i := range d.Written() {
+		if !x.written[i] {
+			t.Fatalf("block %d is a hole", i)
+		}
 	}
 	from := min(at, len(x.s))
 	want := x.s[from:min(from+n, len(x.s))]

@@ -6,19 +6,7 @@ import (
 	"pigeonholes/api"
 )
 
-const (
-	wordSize = 4  // bytes of a number on the disk
-	beside   = 16 // bytes by which room is reckoned for a record, beside its own
-)
-
-// weight of records: the bytes by which room is reckoned for them.
-func weight(records []string) int {
-	n := 0
-	for _, s := range records {
-		n += beside + len(s)
-	}
-	return n
-}
+const wordSize = 4 // bytes of a number on the disk
 
 // block of records, as one call writes it: how many they are, and each with how many bytes it has.
 func block(records []string) string {

@@ -17,7 +17,6 @@ type head struct {
 	calls uint32 // that counted; 0 follows the greatest
 	half  int    // of the disk, 0 or 1, which holds the records
 	used  int    // sectors of that half
-	taken int    // bytes, by the reckoning of which room there is: never fewer than those of the sectors
 }
 
 // newest head of a disk, if there is one.
@@ -41,7 +40,6 @@ func readHead(d *disk.Disk, slot int) (head, bool) {
 	h.calls = uint32(r.word())
 	h.half = r.word()
 	h.used = r.word()
-	h.taken = r.word()
 	if h.slot() != slot || !h.fits(d) {
 		return head{}, false
 	}
@@ -50,7 +48,7 @@ func readHead(d *disk.Disk, slot int) (head, bool) {
 
 // fits it a disk? Who holds to that cannot be led beyond a half.
 func (h head) fits(d *disk.Disk) bool {
-	return d.Sectors() >= least && h.half <= 1 && h.used*api.Sector <= h.taken && h.taken <= third(d)
+	return d.Sectors() >= least && h.half <= 1 && h.used <= half(d)
 }
 
 // slot is the sector of a head.
@@ -62,18 +60,17 @@ func (h head) isBehind(other head) bool { return int32(h.calls-other.calls) > 0 
 // continued is the head of an Add, ahead of its records.
 func (h head) continued() head {
 	h.calls++
-	h.taken += api.Sector
 	return h
 }
 
 // emptied is a head without records, in the other half: those that count may still be needed.
 func (h head) emptied() head {
-	return head{calls: h.calls + 1, half: 1 - h.half, taken: api.Sector}
+	return head{calls: h.calls + 1, half: 1 - h.half}
 }
 
 // first sector of the half that holds the records.
 func (h head) first(d *disk.Disk) int {
-	return heads + h.half*((d.Sectors()-heads)/2)
+	return heads + h.half*half(d)
 }
 
 // records that a head counts; false: they cannot be read.
@@ -111,7 +108,7 @@ func (h head) commit(d *disk.Disk, text string) error {
 
 // save a head.
 func (h head) save(d *disk.Disk) error {
-	if err := d.Write(h.slot(), mark+word(int(h.calls))+word(h.half)+word(h.used)+word(h.taken)); err != nil {
+	if err := d.Write(h.slot(), mark+word(int(h.calls))+word(h.half)+word(h.used)); err != nil {
 		return err
 	}
 	return d.Flush()

@@ -4,6 +4,7 @@ import (
 	"slices"
 	"testing"
 
+	"pigeonholes/api"
 	"pigeonholes/disk"
 )
 
@@ -14,7 +15,7 @@ func TestCallsGoRound(t *testing.T) {
 		if err != nil {
 			t.Fatal(err)
 		}
-		if err := (head{calls: calls, taken: 64}).save(d); err != nil {
+		if err := (head{calls: calls}).save(d); err != nil {
 			t.Fatal(err)
 		}
 		var want []string
@@ -44,25 +45,24 @@ func TestNoHead(t *testing.T) {
 		slot int
 		is   bool
 	}{
-		{head{calls: 1, taken: 64}, 1, true},
-		{head{calls: 2, taken: 64}, 0, true},
-		{head{calls: 1, half: 1, used: 1, taken: 64}, 1, true},
-		{head{calls: 1, half: 1, used: 20, taken: 1280}, 1, true},
-		{head{calls: 1, taken: 64}, 0, false},
-		{head{calls: 2, taken: 64}, 1, false},
-		{head{calls: 1, half: 2, taken: 64}, 1, false},
-		{head{calls: 1, half: 1<<32 - 1, taken: 64}, 1, false},
-		{head{calls: 1, used: 2, taken: 127}, 1, false},
-		{head{calls: 1, used: 20, taken: 1281}, 1, false},
-		{head{calls: 1, used: 21, taken: 1344}, 1, false},
-		{head{calls: 1, used: 1<<32 - 1, taken: 1<<32 - 1}, 1, false},
+		{head{calls: 1}, 1, true},
+		{head{calls: 2}, 0, true},
+		{head{calls: 1, half: 1, used: 1}, 1, true},
+		{head{calls: 1, half: 1, used: 29}, 1, true},
+		{head{calls: 1}, 0, false},
+		{head{calls: 2}, 1, false},
+		{head{calls: 1, half: 2}, 1, false},
+		{head{calls: 1, half: 1<<32 - 1}, 1, false},
+		{head{calls: 1, used: 30}, 1, false},
+		{head{calls: 1, half: 1, used: 30}, 1, false},
+		{head{calls: 1, used: 1<<32 - 1}, 1, false},
 	} {
 		d, err := disk.New(60)
 		if err != nil {
 			t.Fatal(err)
 		}
 		h := x.h
-		if err := d.Write(x.slot, mark+word(int(h.calls))+word(h.half)+word(h.used)+word(h.taken)); err != nil {
+		if err := d.Write(x.slot, mark+word(int(h.calls))+word(h.half)+word(h.used)); err != nil {
 			t.Fatal(err)
 		}
 		if got, is := newest(d); is != x.is || is && got != h || !is && got != (head{}) {
@@ -78,7 +78,7 @@ func TestNoHeadOfFewSectors(t *testing.T) {
 		if err != nil {
 			t.Fatal(err)
 		}
-		if err := (head{calls: 2, taken: min(64, third(d))}).save(d); err != nil {
+		if err := (head{calls: 2}).save(d); err != nil {
 			t.Fatal(err)
 		}
 		if _, is := newest(d); is != (sectors == 8) {
@@ -86,6 +86,32 @@ func TestNoHeadOfFewSectors(t *testing.T) {
 		}
 	}
 }
+
+// P171: there is room for as many sectors as a half has, whatever is in the other one: never for less than a third of the disk.
+func TestRoomInSectors(t *testing.T) {
+	for sectors := least; sectors < 70; sectors++ {
+		d, err := disk.New(sectors)
+		if err != nil {
+			t.Fatal(err)
+		}
+		l, err := Format(d)
+		if err != nil {
+			t.Fatal(err)
+		}
+		most := half(d)
+		if 3*(most+1) <= sectors || heads+2*most > sectors {
+			t.Fatalf("%d sectors: %d have room", sectors, most)
+		}
+		for used := 1; used <= most; used++ {
+			if l.Clear(taking(most+1)) != api.ErrFull || l.Clear(taking(used)) != nil || l.Add(taking(most-used+1)) != api.ErrFull || used < most && l.Add(taking(most-used)) != nil || l.Add(nil) != api.ErrFull {
+				t.Fatalf("%d sectors, %d used", sectors, used)
+			}
+		}
+	}
+}
+
+// taking so many sectors.
+func taking(n int) []string { return []string{string(make([]byte, n*api.Sector-2*wordSize))} }
 
 // P170: what is no block, or not whole, is not read.
 func TestNoBlocks(t *testing.T) {

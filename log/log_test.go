@@ -349,5 +349,5 @@ func TestReadme(t *testing.T) {
 	if !slices.Equal(records, []string{"c"}) {
 		t.Errorf("%q", records)
 	}
-	checkErr(t, l.Add([]string{text(2000)}), api.ErrFull)
+	checkErr(t, l.Add([]string{text(4000)}), api.ErrFull)
 }

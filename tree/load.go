@@ -100,7 +100,7 @@ func (l *loader) held(h api.Handle) {
 	size := l.number(api.MaxFile)
 	for range l.number(api.MaxFile / api.Block) {
 		i := l.number(api.MaxFile/api.Block - 1)
-		l.must(d.Write(i*api.Block, l.bytes(api.Block)) == nil)
+		l.must(d.Write(i*api.Block, l.bytes(mostBlocks*api.Block)) == nil)
 	}
 	l.must(d.Resize(size) == nil)
 }

@@ -8,7 +8,7 @@ import (
 	"pigeonholes/xdr"
 )
 
-// A snapshot is texts on the wire, one behind the other, as one alone has a bound. First how many numbers were given; of each, from 0 on, Kind (0: it is free), Gen and, unless it is free, Change. Then of each node, in the same order: a directory's entries, by name, rising: how many, and of each its name and number; a file's size, and its blocks that are no holes, rising: how many, and of each its number and bytes, up to the end. Links, and what is above, are told by the entries.
+// A snapshot is texts on the wire, one behind the other, as one alone has a bound. First how many numbers were given; of each, from 0 on, Kind (0: it is free), Gen and, unless it is free, Change. Then of each node, in the same order: a directory's entries, by name, rising: how many, and of each its name and number; a file's size, and its blocks that are no holes, rising, by pieces: how many, and of each the number of its first block, and its bytes, up to the end. Links, and what is above, are told by the entries.
 
 // saver of a snapshot.
 type saver struct{ strings.Builder }
@@ -67,13 +67,36 @@ func (s *saver) held(t *Tree, h api.Handle) {
 		return
 	}
 	s.number(d.Size())
-	s.number(d.Blocks())
-	for _, i := range d.Written() {
-		block, _, _ := d.Read(i*api.Block, api.Block)
-		s.number(i)
-		s.bytes(block)
+	l := pieces(d.Written())
+	s.number(len(l))
+	for _, p := range l {
+		text, _, _ := d.Read(p.first*api.Block, p.count*api.Block)
+		s.number(p.first)
+		s.bytes(text)
 	}
 }
+
+// piece of a file: blocks that are no holes, with none between them.
+type piece struct{ first, count int }
+
+// mostBlocks of a piece: its bytes must go on the wire.
+const mostBlocks = 32
+
+// pieces of blocks, whose numbers rise: as few as can be.
+func pieces(written []int) []piece {
+	var l []piece
+	for _, i := range written {
+		if last := len(l) - 1; last >= 0 && l[last].goesOn(i) {
+			l[last].count++
+		} else {
+			l = append(l, piece{first: i, count: 1})
+		}
+	}
+	return l
+}
+
+// goesOn: has it room for this block, right behind it?
+func (p piece) goesOn(i int) bool { return p.first+p.count == i && p.count < mostBlocks }
 
 func (s *saver) number(n int) {
 	w := &xdr.Writer{}

@@ -10,9 +10,9 @@ import (
 // locking: ops on ranges, of the open that their state is of.
 func locking() map[string]work {
 	return map[string]work{
-		"lock": asLock(func(c *compound, l lock.Lock) (lock.Lock, error) {
+		"lock": guarded(asLock(func(c *compound, l lock.Lock) (lock.Lock, error) {
 			return c.locks.Lock(l.H, l.Owner, l.R, l.Write)
-		}),
+		})),
 		"test": asLock(func(c *compound, l lock.Lock) (lock.Lock, error) {
 			return c.locks.Test(l.H, l.Owner, l.R, l.Write)
 		}),
@@ -51,22 +51,22 @@ func asLock(ask func(c *compound, wanted lock.Lock) (lock.Lock, error)) work {
 // using: ops on what the current file holds.
 func using() map[string]work {
 	return map[string]work{
-		"read": onFile(api.Read, func(c *compound, op Op) (Reply, error) {
+		"read": needCur(onFile(api.Read, func(c *compound, op Op) (Reply, error) {
 			text, end, err := c.tree.Read(c.cur.Handle, op.A, op.B)
 			return Reply{Text: text, End: end}, err
-		}),
-		"write": onFile(api.Write, func(c *compound, op Op) (Reply, error) {
+		})),
+		"write": needCur(guarded(onFile(api.Write, func(c *compound, op Op) (Reply, error) {
 			return Reply{}, c.tree.Write(c.cur.Handle, op.A, op.Text)
-		}),
-		"resize": onFile(api.Write, func(c *compound, op Op) (Reply, error) {
+		}))),
+		"resize": needCur(guarded(onFile(api.Write, func(c *compound, op Op) (Reply, error) {
 			return Reply{}, c.tree.Resize(c.cur.Handle, op.A)
-		}),
+		}))),
 	}
 }
 
 // onFile makes an op of what needs an access to the current file.
 func onFile(access int, do work) work {
-	return needCur(func(c *compound, op Op) (Reply, error) {
+	return func(c *compound, op Op) (Reply, error) {
 		if err := c.checkFile(c.cur.Handle); err != nil {
 			return Reply{}, err
 		}
@@ -74,7 +74,7 @@ func onFile(access int, do work) work {
 			return Reply{}, err
 		}
 		return do(c, op)
-	})
+	}
 }
 
 // may a file be read, or written, by who has a state (or none)?

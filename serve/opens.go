@@ -12,7 +12,7 @@ type open struct {
 // opening: ops by which an owner has opens, each in its turn.
 func opening() map[string]work {
 	return map[string]work{
-		"open":  needCur(inTurn(openFile)),
+		"open":  needCur(guarded(inTurn(openFile))),
 		"close": inTurn(closeOpen),
 		"down":  inTurn(downOpen),
 	}
